@@ -4,7 +4,6 @@ import (
 	"slices"
 
 	"ridgeway/api"
-	"ridgeway/session"
 	"ridgeway/speaker"
 	"ridgeway/topo"
 )
@@ -43,7 +42,8 @@ func (w *work) act(i, k int, do func(n api.Node, k int) (api.Node, []byte)) {
 	w.send(i, k, told)
 }
 
-func (w *work) idle(i, k int) bool { return w.n.N[i].S[k].State == session.Idle }
+// idle: of the sessions that may be, the Idle one alone has nothing.
+func (w *work) idle(i, k int) bool { return w.n.N[i].S[k] == api.Sess{} }
 
 func (w *work) begin(o api.Op) {
 	j, m, ok := w.far(o.A, o.B)
