@@ -6,6 +6,7 @@ import (
 	"testing"
 
 	"ridgeway/api"
+	"ridgeway/conf"
 	"ridgeway/decide"
 	"ridgeway/edge"
 	"ridgeway/fair"
@@ -245,5 +246,23 @@ func TestWholeSidesThatDoNotGoTogether(t *testing.T) {
 	}
 	if other < 20 {
 		t.Errorf("only %d sides", other)
+	}
+}
+
+// What README.md shows.
+func TestWholeReadme(t *testing.T) {
+	a, _, _ := conf.Parse("as 65001\nid 10.0.0.1\nown 10.1.0.0/16\npeer 65002 customer\nin any pref 300\nout any accept\n")
+	b, _, _ := conf.Parse("as 65002\nid 10.0.0.2\nown 10.2.0.0/16\npeer 65001 provider\nin any pref 100\nout from own accept\n")
+	l := []api.Conf{a, b}
+	if i, e := topo.Check(l); i != 0 || e != api.OK {
+		t.Fatal(i, e)
+	}
+	n, _ := fair.Rounds(fair.Join(net.New(l)), fair.Bound(len(l)))
+	agreed, ok := stable.Stable(l)
+	for i := range l {
+		taken := speaker.Loc(n.N[i])
+		if !ok || len(taken) != 2 || !decide.Same(taken, agreed[i]) {
+			t.Errorf("node %d takes %v", i, taken)
+		}
 	}
 }
