@@ -114,6 +114,17 @@ func TestWholeNodes(t *testing.T) {
 	}
 }
 
+// injected is a script with octets on their way that no node told: news, or what is no message.
+func injected(r *rand.Rand, s []api.Op) []api.Op {
+	news := update.Put(api.News{P: api.Path{As: []int{65001, 9}, Hop: 7}, Nlri: []api.Prefix{x(0), x(9)}})
+	for i := range s {
+		if r.Intn(10) == 0 {
+			s[i].K, s[i].Data = net.Inject, [][]byte{msg.Put(nil, news), {1, 2, 3}}[r.Intn(2)]
+		}
+	}
+	return s
+}
+
 // W3: of nodes with which nothing is wrong, whatever came ahead, each takes what all agree on, behind as many rounds as the bound says.
 func TestWholeRest(t *testing.T) {
 	r := rand.New(rand.NewSource(10))
@@ -121,7 +132,7 @@ func TestWholeRest(t *testing.T) {
 		l := good(r, 5)
 		n := net.New(l)
 		if round%2 == 0 {
-			n = fair.Join(net.Run(n, script(r, l, 100, true)))
+			n = net.Run(fair.Join(n), injected(r, script(r, l, 100, true)))
 		}
 		n = net.Run(fair.Join(n), script(r, l, 60, false))
 		if !fair.Ready(n) {
